@@ -1,0 +1,1 @@
+"""Earthward: bars under power, and places where hands may work."""
