@@ -169,6 +169,24 @@ class Language(unittest.TestCase):
                 if isinstance(node, ast.Name) and isinstance(node.ctx, ast.Load) and node.id not in names:
                     self.assertIn(node.id, OWN_NAMES, (path.name, node.lineno))
 
+    def test_no_local_is_called_like_a_class_or_an_import(self):
+        for path in files():
+            tree = parsed(path)
+            taken = {name.name for node in tree.body if isinstance(node, ast.ImportFrom) for name in node.names}
+            taken |= {node.name for node in tree.body if isinstance(node, ast.ClassDef)}
+            for part in tree.body:
+                if isinstance(part, ast.FunctionDef):
+                    self.assertEqual(taken & (set(bound(part)) - {part.name}), set(), (path.name, part.name))
+                if isinstance(part, ast.ClassDef):
+                    for method in part.body:
+                        self.assertEqual(taken & set(bound(method)), set(), (path.name, part.name))
+
+    def test_each_name_of_a_file_is_bound_once(self):
+        for path in files():
+            tops = [name for part in parsed(path).body for name in (
+                [part.name] if isinstance(part, (ast.FunctionDef, ast.ClassDef)) else list(bound(part)))]
+            self.assertEqual(len(tops), len(set(tops)), path)
+
     def test_methods(self):
         own = set()
         values = set()
