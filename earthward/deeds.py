@@ -1,7 +1,13 @@
 """Deeds: turning a switch, and why it is refused."""
 
 from earthward.errors import Loaded, NoSwitch, Shorted
-from earthward.reach import Net, lowest, way
+from earthward.reach import Net, lowest, numbers_in, way
+
+
+# Asked ahead of all else: a number of thirty figures is no place to shift to.
+def check_switch(yard, number):
+    if not 0 <= number < len(yard[1]):
+        raise NoSwitch("there is no such switch")
 
 
 def after_turn(standing, number):
@@ -25,9 +31,7 @@ def shorts(net, standing, number):
 
 
 def turned(yard, standing, number):
-    # Ahead of all else: a number of thirty figures is no place to shift to.
-    if not 0 <= number < len(yard[1]):
-        raise NoSwitch("there is no such switch")
+    check_switch(yard, number)
     net = Net(yard)
     if loads(net, standing, number):
         raise Loaded("a splitter would part or join a load")
@@ -39,9 +43,8 @@ def turned(yard, standing, number):
 def shorting(yard, standing, number):
     net = Net(yard)
     after = after_turn(standing, number)
-    numbers = [other for other in range(len(yard[1])) if (after >> other) & 1]
-    for feed in [other for other in numbers if net.switches[other].feeds()]:
-        for earth in [other for other in numbers if net.switches[other].earths()]:
+    for feed in [other for other in numbers_in(after) if net.switches[other].feeds()]:
+        for earth in [other for other in numbers_in(after) if net.switches[other].earths()]:
             found = way(yard, after, net.switches[feed].feeds(), net.switches[earth].earths())
             if found is not None:
                 return (feed, found, earth)

@@ -1,11 +1,11 @@
 """Plans: the fewest deeds to what is wished, or all standings that deeds lead to."""
 
 from earthward.deeds import after_turn, loads, shorts
-from earthward.reach import Net
+from earthward.reach import Net, has
 
 
 def free_switches(yard, fixed):
-    return [number for number in range(len(yard[1])) if not (fixed >> number) & 1]
+    return [number for number in range(len(yard[1])) if not has(fixed, number)]
 
 
 # The layer behind one. Each of its standings is put into came_by, with the switch that was turned to come to it.

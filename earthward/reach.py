@@ -6,13 +6,17 @@ A set of bars or of switches is a whole number: the sum of 2 to the N over its n
 from earthward.switches import switch_of
 
 
+def has(some, number):
+    return (some >> number) & 1 == 1
+
+
 # The objects of a yard's switches, made once, so that many standings of the same yard can be asked about.
 class Net:
     def __init__(self, yard):
         self.switches = [switch_of(switch) for switch in yard[1]]
 
     def shut_ones(self, standing):
-        return [switch for number, switch in enumerate(self.switches) if (standing >> number) & 1]
+        return [switch for number, switch in enumerate(self.switches) if has(standing, number)]
 
     def joined_bars(self, standing, some):
         pairs = [switch.joins() for switch in self.shut_ones(standing)]
@@ -31,11 +35,15 @@ class Net:
             fed = fed | switch.feeds()
         return self.joined_bars(standing, fed)
 
-    def earthed_bars(self, standing):
+    # The bars with a shut earth of their own.
+    def led_bars(self, standing):
         led = 0
         for switch in self.shut_ones(standing):
             led = led | switch.earths()
-        return self.joined_bars(standing, led)
+        return led
+
+    def earthed_bars(self, standing):
+        return self.joined_bars(standing, self.led_bars(standing))
 
     def is_safe(self, standing):
         return self.live_bars(standing) & self.earthed_bars(standing) == 0
@@ -62,13 +70,17 @@ def lowest(some):
     return some & -some
 
 
+def numbers_in(some):
+    return [number for number in range(some.bit_length()) if has(some, number)]
+
+
 # Each bar that one step leads to from the front and that isn't reached yet, with that step: (number, bar it is from).
 # Bars stand here as sets of one.
 def steps_from(net, standing, front, reached):
     steps = {}
     for number, switch in enumerate(net.switches):
         pair = switch.joins()
-        if (standing >> number) & 1 and pair & front and pair & ~reached:
+        if has(standing, number) and pair & front and pair & ~reached:
             steps[pair & ~reached] = (number, pair & front)
     return steps
 

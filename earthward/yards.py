@@ -20,15 +20,19 @@ def is_number(word):
     return all([sign in FIGURES for sign in word])
 
 
+def numbers_told(words):
+    if not all([is_number(word) for word in words]):
+        raise NoRow("a word of the row is no number")
+    return [int(word) for word in words]
+
+
 # The first word and the numbers of a row of a yard's text, the count's row or a switch's.
 def parted(row):
     words = row.split(" ")
     kind = words[0]
     if kind not in NUMBERS_BEHIND or len(words) != 1 + NUMBERS_BEHIND[kind]:
         raise NoRow("no such row")
-    if not all([is_number(word) for word in words[1:]]):
-        raise NoRow("a word of the row is no number")
-    return tuple([kind] + [int(word) for word in words[1:]])
+    return tuple([kind] + numbers_told(words[1:]))
 
 
 def count_in(row):

@@ -1,4 +1,4 @@
-"""What the document says of stages 2 to 4, told again apart from the program: slow, by plain sets and tables."""
+"""What the document says of stages 2 to 5, told again apart from the program: slow, by plain sets and tables."""
 
 import functools
 import itertools
@@ -146,6 +146,40 @@ def as_wished(yard, standing, wish):
 
 def safe_standings(yard):
     return [standing for standing in range(2 ** len(yard[1])) if safe(yard, standing)]
+
+
+def lockable(yard):
+    return [number for number, switch in enumerate(yard[1]) if switch[0] in ("feed", "splitter")]
+
+
+def keeps_dead(yard, place, locks):
+    """As its first words say: in no standing in which all the locks are open a bar of the place is live."""
+    return not any(live(yard, standing) & place for standing in range(2 ** len(yard[1])) if not standing & locks)
+
+
+def dead_with(yard, place, open_ones):
+    """As its last words say, which is quicker: in the standing of all other switches."""
+    return not live(yard, mask(number for number in range(len(yard[1])) if number not in open_ones)) & place
+
+
+def how_few_locks(yard, place):
+    """Every set of lockable switches is tried, the ones with fewer first."""
+    lockables = lockable(yard)
+    for many in range(len(lockables) + 1):
+        if any(dead_with(yard, place, locks) for locks in itertools.combinations(lockables, many)):
+            return many
+    return None
+
+
+def is_fed_way(yard, standing, place, numbers):
+    """A feed's number and then a way from its bar to the place, no switch twice."""
+    if not numbers or numbers[0] not in shut(yard, standing, "feed") or len(numbers) != len(set(numbers)):
+        return False
+    return is_way(yard, standing, 2 ** yard[1][numbers[0]][1], place, numbers[1:])
+
+
+def hangs_on(yard, standing, bar):
+    return [number for number in numbers_in(standing) if bar not in numbers_in(live(yard, standing - 2 ** number))]
 
 
 def all_switches(bars):

@@ -32,6 +32,8 @@ WORDS_OUT = set(
     "NamedTuple TypedDict TYPE_CHECKING abstractmethod".split()
 )
 NAMES_OUT = set("register mro elements open input version_info with_traceback add_note format format_map".split())
+VALUES_OUT = set("items keys values pop update append clear extend insert remove reverse setdefault sort args encode "
+                 "format".split())
 DUNDERS = ("__init__", "__eq__", "__repr__", "__str__", "__len__")
 
 
@@ -199,10 +201,37 @@ class Language(unittest.TestCase):
                 if isinstance(node, ast.Attribute) and isinstance(node.ctx, ast.Store):
                     values.add(node.attr)
         self.assertEqual(own & values, set())
+        self.assertEqual(values & VALUES_OUT, set())
         for path in files():
-            for node in ast.walk(parsed(path)):
-                if isinstance(node, ast.Call) and isinstance(node.func, ast.Attribute):
-                    self.assertIn(node.func.attr, own | OWN_METHODS, (path.name, node.lineno))
+            nodes = list(ast.walk(parsed(path)))
+            called = [node.func for node in nodes if isinstance(node, ast.Call)]
+            for node in nodes:
+                if isinstance(node, ast.Attribute) and node in called:
+                    self.assertIn(node.attr, own | OWN_METHODS, (path.name, node.lineno))
+                elif isinstance(node, ast.Attribute):
+                    self.assertIn(node.attr, values, (path.name, node.lineno))
+
+    def test_classes_are_called_or_raised_and_not_handed_on(self):
+        names = {part.name for path in files() for part in parsed(path).body if isinstance(part, ast.ClassDef)}
+        for path in files():
+            nodes = list(ast.walk(parsed(path)))
+            fitting = [node.func for node in nodes if isinstance(node, ast.Call)]
+            fitting += [base for node in nodes if isinstance(node, ast.ClassDef) for base in node.bases]
+            for node in nodes:
+                if isinstance(node, ast.Name) and node.id in names:
+                    self.assertIn(node, fitting, (path.name, node.lineno))
+
+    def test_lists_and_dicts_of_a_files_top_are_only_read(self):
+        tops = {part.targets[0].id for path in files() for part in parsed(path).body
+                if isinstance(part, ast.Assign) and isinstance(part.value, (ast.List, ast.Dict))}
+        for path in files():
+            nodes = list(ast.walk(parsed(path)))
+            fitting = [node.value for node in nodes if isinstance(node, ast.Subscript) and isinstance(node.ctx, ast.Load)]
+            fitting += [node.iter for node in nodes if isinstance(node, ast.For)]
+            fitting += [part for node in nodes if isinstance(node, ast.Compare) for part in node.comparators]
+            for node in nodes:
+                if isinstance(node, ast.Name) and isinstance(node.ctx, ast.Load) and node.id in tops:
+                    self.assertIn(node, fitting, (path.name, node.lineno))
 
 
 if __name__ == "__main__":
